@@ -27,19 +27,13 @@ class PutRefused(unittest.TestCase):
         self.assertEqual(seen(backs[1:4]), after(BEGIN, play(44)))
         self.assertEqual(seen(backs[5:8]), after(BEGIN))
 
-    def test_every_other_byte_in_the_last_place(self):
+    def test_every_other_byte_in_the_first_and_in_the_last_place(self):
         for byte in range(256):
-            if byte not in (88, 79, 45):
+            for place in (0, 63):
                 text = [ord(sign) for sign in BEGINNING]
-                text[63] = byte
-                self.assertEqual(ask(BEGIN, put(1, text)), [[0], [-1]], byte)
-
-    def test_every_other_byte_in_the_first_place(self):
-        for byte in range(256):
-            if byte not in (88, 79, 45):
-                text = [ord(sign) for sign in BEGINNING]
-                text[0] = byte
-                self.assertEqual(ask(BEGIN, put(2, text)), [[0], [-1]], byte)
+                text[place] = byte
+                told = [0] if byte in (88, 79, 45) else [-1]
+                self.assertEqual(ask(BEGIN, put(1, text), put(2, text))[1:], [told, told], (place, byte))
 
     def test_a_wrong_byte_in_any_place(self):
         for place in range(64):
