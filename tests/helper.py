@@ -1,5 +1,7 @@
 """What the tests share: the calls in their written form, and a second, slow telling of the rules."""
 
+import re
+
 from turnstones.game import answers
 
 GREATEST = 2147483647
@@ -10,6 +12,9 @@ TEXT = [3, 0, 0]
 MOVER = [4, 0, 0]
 MOVES = [5, 0, 0]
 BACK = [7, 0, 0]
+VALUE = [9, 0, 0]
+BEST = [10, 0, 0]
+FORM = [12, 0, 0]
 # All that can be seen of a position.
 SEEN = (TEXT, MOVER, MOVES)
 
@@ -38,7 +43,7 @@ SHORT_GAME = (44, 29, 20, 45, 30, 31, 37, 43, 21, 13)
 
 def put(mover, text):
     """The call ot_put; text is a str or a list of numbers."""
-    numbers = [ord(sign) for sign in text] if isinstance(text, str) else list(text)
+    numbers = bytes_of(text)
     return [2, 1, mover, 1, len(numbers)] + numbers
 
 
@@ -50,6 +55,39 @@ def play(square):
 def plays(squares):
     """The calls ot_play for the squares."""
     return [play(square) for square in squares]
+
+
+def games(depth):
+    """The call ot_games."""
+    return [8, 1, depth, 0]
+
+
+def count(which):
+    """The call ot_count."""
+    return [13, 1, which, 0]
+
+
+def record(text, n=None):
+    """The call ot_record; text is a str or a list of numbers, and n is its length if nothing else is told."""
+    numbers = bytes_of(text)
+    return [11, 1, len(numbers) if n is None else n, 1, len(numbers)] + numbers
+
+
+def told(squares):
+    """The squares as a record tells them."""
+    return "".join("abcdefgh"[square % 8] + str(square // 8 + 1) for square in squares)
+
+
+def bytes_of(text):
+    """The numbers of a text, which is a str or a list of numbers."""
+    return [ord(sign) for sign in text] if isinstance(text, str) else list(text)
+
+
+def text_of(answer):
+    """The board that ot_text and ot_form answer, as a str."""
+    if len(answer) != 65 or answer[0] != 0:
+        raise AssertionError(f"not in the form that is asked: {answer}")
+    return "".join(chr(byte) for byte in answer[1:])
 
 
 def joined(calls):
@@ -86,12 +124,12 @@ def after(*calls):
 def seen(three):
     """The answers to SEEN, in a form that's easy to read."""
     text, mover, moves = three
-    if len(text) != 65 or text[0] != 0 or len(mover) != 1 or len(moves) != 2:
+    if len(mover) != 1 or len(moves) != 2:
         raise AssertionError(f"not in the form that is asked: {three}")
     squares = squares_of(moves[1])
     if len(squares) != moves[0]:
         raise AssertionError(f"{moves[0]} moves told, {len(squares)} in the set")
-    return "".join(chr(byte) for byte in text[1:]), mover[0], squares
+    return text_of(text), mover[0], squares
 
 
 def squares_of(number):
@@ -186,3 +224,76 @@ class Model:
     def seen(self):
         """What is seen of the position, as after() tells it."""
         return self.board, self.mover, self.moves(self.mover)
+
+    def behind(self):
+        """The squares of the moves, each with the game behind that move."""
+        found = []
+        for square in self.moves(self.mover):
+            after_it = Model()
+            after_it.board, after_it.mover = self.board, self.mover
+            after_it.play(square)
+            found.append((square, after_it))
+        return found
+
+    def games(self, depth):
+        """ot_games: every way is gone by itself."""
+        if not 0 <= depth <= 9:
+            return -1
+        if depth == 0 or self.mover == 0:
+            return 1
+        return sum(after_it.games(depth - 1) for square, after_it in self.behind())
+
+    def comes_to(self):
+        """What the position comes to: every game is played to its end."""
+        if self.mover == 0:
+            lead = self.count(1) - self.count(2)
+            return lead + self.count(0) if lead > 0 else lead - self.count(0) if lead < 0 else 0
+        values = [after_it.comes_to() for square, after_it in self.behind()]
+        return max(values) if self.mover == 1 else min(values)
+
+    def value(self):
+        """ot_value."""
+        return -100 if self.count(0) > 10 else self.comes_to()
+
+    def best(self):
+        """ot_best."""
+        if self.count(0) > 10:
+            return -100
+        if self.mover == 0:
+            return -1
+        value = self.comes_to()
+        return [square for square, after_it in self.behind() if after_it.comes_to() == value][0]
+
+    def record(self, n, text):
+        """ot_record; text is a list of numbers."""
+        if not 0 <= n <= 256:
+            return -1000
+        board_now, mover_now, before_now = self.board, self.mover, list(self.before)
+        for place in range(0, n, 2):
+            two = bytes(text[place:place + 2])
+            square = -1
+            if re.fullmatch(b"[a-hA-H][1-8]", two):
+                square = b"abcdefgh".index(two[:1].lower()) + 8 * (int(two[1:]) - 1)
+            if self.play(square) == -1:
+                self.board, self.mover, self.before = board_now, mover_now, before_now
+                return -1 - place
+        return n // 2
+
+    def form(self):
+        """The least board, as a str."""
+        return min(turned_over(self.board), key=lambda text: ["-XO".index(sign) for sign in text])
+
+    def count(self, which):
+        """ot_count."""
+        return self.board.count("-XO"[which]) if which in (0, 1, 2) else -1
+
+
+def turned_over(text):
+    """The eight boards that come of turning a board over, by whole rows of signs."""
+    rows = [text[place:place + 8] for place in range(0, 64, 8)]
+    found = []
+    for each in (rows, ["".join(column) for column in zip(*rows)]):
+        for upright in (each, each[::-1]):
+            found.append("".join(upright))
+            found.append("".join(row[::-1] for row in upright))
+    return found

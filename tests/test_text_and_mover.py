@@ -3,12 +3,8 @@
 import unittest
 
 from tests.helper import (
-    BEGIN, BEGINNING, LONGEST_GAME, MOVER, SHORT_GAME, TEXT, ask, board, play, plays, put,
+    BEGIN, BEGINNING, LONGEST_GAME, MOVER, SHORT_GAME, TEXT, ask, board, bytes_of, play, plays, put,
 )
-
-
-def bytes_of(text):
-    return [ord(sign) for sign in text]
 
 
 class Text(unittest.TestCase):

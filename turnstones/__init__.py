@@ -1,1 +1,1 @@
-"""Reversi: games are played and taken back. The one function to call is answers, in game.py."""
+"""Reversi: games are played, counted and reckoned to the end. The one function to call is answers, in game.py."""

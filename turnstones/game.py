@@ -1,9 +1,11 @@
 """The calls on a game, handed in as one list of whole numbers, and the list of their answers."""
 
-from turnstones.board import board_text
-from turnstones.position import moves
+from turnstones.board import board_text, form_text
+from turnstones.outcome import best_square, comes_to
+from turnstones.position import held
 from turnstones.session import Session
 from turnstones.squares import size
+from turnstones.ways import count_ways
 
 BEGIN = 1
 PUT = 2
@@ -12,6 +14,12 @@ MOVER = 4
 MOVES = 5
 PLAY = 6
 BACK = 7
+GAMES = 8
+VALUE = 9
+BEST = 10
+RECORD = 11
+FORM = 12
+COUNT = 13
 
 
 class UnknownCall(Exception):
@@ -54,12 +62,28 @@ def answer(session, call):
     if call.number == MOVER:
         return [session.position.mover]
     if call.number == MOVES:
-        squares = moves(session.position)
-        return [size(squares), squares]
+        return [size(session.position.choices), session.position.choices]
     if call.number == PLAY:
         return [session.play(call.numbers[0])]
     if call.number == BACK:
         return [session.back()]
+    if call.number == RECORD:
+        return [session.record(call.numbers[0], call.texts[0])]
+    return answer_of_reckoning(session.position, call)
+
+
+def answer_of_reckoning(position, call):
+    """The numbers that a call answers which is about the position alone, and reckons with it."""
+    if call.number == GAMES:
+        return [count_ways(position, call.numbers[0])]
+    if call.number == VALUE:
+        return [comes_to(position)]
+    if call.number == BEST:
+        return [best_square(position)]
+    if call.number == FORM:
+        return [0] + form_text(position)
+    if call.number == COUNT:
+        return [held(position, call.numbers[0])]
     raise UnknownCall("no call has this number")
 
 

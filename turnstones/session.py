@@ -2,9 +2,11 @@
 
 from turnstones.board import BYTE_OF_FIRST, BYTE_OF_SECOND, is_board, squares_with
 from turnstones.position import FIRST, SECOND, beginning, played, settled, turned_by
+from turnstones.record import square_told
 from turnstones.squares import size
 
 KEPT_BEFORE = 128
+LONGEST_RECORD = 256
 
 
 class Session:
@@ -47,6 +49,24 @@ class Session:
             return -1
         self.go_on_to(played(self.position, square, turned))
         return size(turned)
+
+    def record(self, length, text):
+        """Makes the moves that the text tells; how many, or -1 less the place of the first that can't be made."""
+        if length < 0 or length > LONGEST_RECORD:
+            return -1000
+        position = self.position
+        reached = []
+        for place in range(0, length, 2):
+            square = square_told(text, place)
+            turned = turned_by(position, square)
+            if turned == 0:
+                return -1 - place
+            position = played(position, square, turned)
+            reached.append(position)
+        # Only now, for a record that can't be played to its end changes nothing.
+        for position in reached:
+            self.go_on_to(position)
+        return len(reached)
 
     def back(self):
         """Takes the last move back; 0, or -1 if there is none."""

@@ -27,39 +27,32 @@ def size(squares):
     return found
 
 
-def stepped(squares, up, down, landing):
-    """The squares one step further, without those that step off the board."""
-    return ((squares << up) >> down) & landing
+def listed(squares):
+    """The numbers of the squares in the set, the lowest first."""
+    found = []
+    rest = squares
+    while rest != 0:
+        without_lowest = rest & (rest - 1)
+        found.append((rest ^ without_lowest).bit_length() - 1)
+        rest = without_lowest
+    return found
 
 
-def row_turned(stone, own, other, up, down, landing):
-    """What a stone put on an empty square turns in one direction."""
-    row = 0
-    reached = stepped(stone, up, down, landing)
-    while reached & other != 0:
-        row = row | reached
-        reached = stepped(reached, up, down, landing)
-    if reached & own == 0:
-        return 0
-    return row
+# Counting ways and reckoning to the end spend most of their time in the two functions below, so that
+# they go along all eight directions by themselves. One step is (squares << up) >> down, & landing.
 
 
 def stones_turned(stone, own, other):
     """What a stone put on an empty square turns in all directions."""
     found = 0
     for up, down, landing in DIRECTIONS:
-        found = found | row_turned(stone, own, other, up, down, landing)
-    return found
-
-
-def row_ends(own, other, up, down, landing):
-    """The squares just behind a row of the other's stones that begins beside one's own stone."""
-    found = 0
-    row = stepped(own, up, down, landing) & other
-    while row != 0:
-        reached = stepped(row, up, down, landing)
-        found = found | reached
-        row = reached & other
+        row = 0
+        reached = ((stone << up) >> down) & landing
+        while reached & other != 0:
+            row = row | reached
+            reached = ((reached << up) >> down) & landing
+        if reached & own != 0:
+            found = found | row
     return found
 
 
@@ -67,5 +60,9 @@ def squares_to_play(own, other):
     """The empty squares on which one's stone turns at least one of the other's."""
     found = 0
     for up, down, landing in DIRECTIONS:
-        found = found | row_ends(own, other, up, down, landing)
+        row = ((own << up) >> down) & landing & other
+        while row != 0:
+            behind_row = ((row << up) >> down) & landing
+            found = found | behind_row
+            row = behind_row & other
     return found & (EVERY_SQUARE ^ (own | other))
