@@ -65,18 +65,12 @@ def turned_by(position, square):
     return stones_turned(stone, position.second, position.first)
 
 
-def stones_behind(position, square, turned):
-    """The squares of the first and of the second behind a move, and who is to move next, if that one can."""
-    gained = turned | (1 << square)
-    if position.mover == FIRST:
-        return (position.first | gained, position.second ^ turned, SECOND)
-    return (position.first ^ turned, position.second | gained, FIRST)
-
-
 def played(position, square, turned):
     """The position behind the move on square, which turns those that are told."""
-    stones = stones_behind(position, square, turned)
-    return settled(stones[0], stones[1], stones[2])
+    gained = turned | (1 << square)
+    if position.mover == FIRST:
+        return settled(position.first | gained, position.second ^ turned, SECOND)
+    return settled(position.first ^ turned, position.second | gained, FIRST)
 
 
 def positions_behind(position):

@@ -1,30 +1,26 @@
 """Sets of squares. A set is one whole number: the sum of 2 to the number of each square in it."""
 
-# A step adds to every square's number (the first figure) or takes away from it (the second).
-# A step over the side edge would come out on the next row's far side, so the third figure,
-# the squares that the step may land on, leaves out the column where it would.
-DIRECTIONS = (
-    (1, 0, 0xfefefefefefefefe),
-    (0, 1, 0x7f7f7f7f7f7f7f7f),
-    (8, 0, 0xffffffffffffffff),
-    (0, 8, 0xffffffffffffffff),
-    (9, 0, 0xfefefefefefefefe),
-    (0, 9, 0x7f7f7f7f7f7f7f7f),
-    (7, 0, 0x7f7f7f7f7f7f7f7f),
-    (0, 7, 0xfefefefefefefefe),
+# The four lines through a square: a step along one adds the first figure to the square's number, or takes it away.
+# Stones that are turned lie between two others, so never in a column or row where the line ends. The second figure,
+# the squares without these, keeps the steps on the board: from one of them a step can't go over the edge, and a step
+# that does, from elsewhere, comes out at the far edge or nowhere, so on none of them.
+LINES = (
+    (1, 0x7e7e7e7e7e7e7e7e),
+    (8, 0x00ffffffffffff00),
+    (7, 0x007e7e7e7e7e7e00),
+    (9, 0x007e7e7e7e7e7e00),
 )
 EVERY_SQUARE = 0xffffffffffffffff
 
 
 def size(squares):
     """How many squares are in the set."""
-    found = 0
-    rest = squares
-    while rest != 0:
-        # Taking 1 away changes the lowest bit and those below it, so this drops just the lowest.
-        rest = rest & (rest - 1)
-        found = found + 1
-    return found
+    # Two squares' counts are added up side by side in all places at once, then four squares', then eight's.
+    twos = squares - ((squares >> 1) & 0x5555555555555555)
+    fours = (twos & 0x3333333333333333) + ((twos >> 2) & 0x3333333333333333)
+    eights = (fours + (fours >> 4)) & 0x0f0f0f0f0f0f0f0f
+    # 256 is 1 more than 255, so what is left over is the sum of the eight counts.
+    return eights % 255
 
 
 def listed(squares):
@@ -32,6 +28,7 @@ def listed(squares):
     found = []
     rest = squares
     while rest != 0:
+        # Taking 1 away changes the lowest bit and those below it, so this drops just the lowest.
         without_lowest = rest & (rest - 1)
         found.append((rest ^ without_lowest).bit_length() - 1)
         rest = without_lowest
@@ -39,18 +36,26 @@ def listed(squares):
 
 
 # Counting ways and reckoning to the end spend most of their time in the two functions below, so that
-# they go along all eight directions by themselves. One step is (squares << up) >> down, & landing.
+# they go along all lines, up and down, by themselves.
 
 
 def stones_turned(stone, own, other):
     """What a stone put on an empty square turns in all directions."""
     found = 0
-    for up, down, landing in DIRECTIONS:
+    for step, inside in LINES:
+        between = other & inside
         row = 0
-        reached = ((stone << up) >> down) & landing
-        while reached & other != 0:
+        reached = stone << step
+        while reached & between != 0:
             row = row | reached
-            reached = ((reached << up) >> down) & landing
+            reached = reached << step
+        if reached & own != 0:
+            found = found | row
+        row = 0
+        reached = stone >> step
+        while reached & between != 0:
+            row = row | reached
+            reached = reached >> step
         if reached & own != 0:
             found = found | row
     return found
@@ -59,10 +64,16 @@ def stones_turned(stone, own, other):
 def squares_to_play(own, other):
     """The empty squares on which one's stone turns at least one of the other's."""
     found = 0
-    for up, down, landing in DIRECTIONS:
-        row = ((own << up) >> down) & landing & other
+    for step, inside in LINES:
+        between = other & inside
+        row = (own << step) & between
         while row != 0:
-            behind_row = ((row << up) >> down) & landing
+            behind_row = row << step
             found = found | behind_row
-            row = behind_row & other
+            row = behind_row & between
+        row = (own >> step) & between
+        while row != 0:
+            behind_row = row >> step
+            found = found | behind_row
+            row = behind_row & between
     return found & (EVERY_SQUARE ^ (own | other))
